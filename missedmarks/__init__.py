@@ -1,0 +1,1 @@
+"""Compacted logs and readers that lag: what can be missed, and what must be done so that nothing is."""

@@ -1,0 +1,42 @@
+"""The interface: each name with its parameters, defined in its file, each method in its class itself."""
+
+import importlib
+import inspect
+import unittest
+
+FUNCTIONS = {
+    "missedmarks.data": {
+        "is_event": "(thing)", "is_timetable": "(thing)", "is_sweeps": "(timetable, thing)",
+        "is_guards": "(timetable, thing)", "entries": "(timetable)", "readers_of": "(timetable)",
+        "guards_of": "(timetable)",
+    },
+    "missedmarks.log": {"run": "(timetable, hold, sweeps=(), guards=())"},
+}
+METHODS = {
+    ("missedmarks.log", "Log"): {
+        "__init__": "(self, hold, guards=())", "put": "(self, key, value)", "drop": "(self, key)",
+        "join": "(self, reader)", "read": "(self, reader, upto)", "save": "(self, reader)",
+        "load": "(self, reader, copy)", "wait": "(self)", "do": "(self, event)", "sweep": "(self, point)",
+        "there": "(self)", "now": "(self)", "many": "(self)", "seat": "(self, reader)", "table": "(self, reader)",
+        "readers": "(self)", "copies": "(self)", "last": "(self, key)", "wrong": "(self, reader)", "twin": "(self)",
+        "__eq__": "(self, other)", "__len__": "(self)", "__repr__": "(self)",
+    },
+}
+
+
+class Interface(unittest.TestCase):
+    def test_functions(self):
+        for module, functions in FUNCTIONS.items():
+            for name, parameters in functions.items():
+                function = vars(importlib.import_module(module))[name]
+                self.assertTrue(inspect.isfunction(function), name)
+                self.assertEqual(function.__module__, module)
+                self.assertEqual(str(inspect.signature(function)), parameters)
+
+    def test_methods(self):
+        for (module, name), methods in METHODS.items():
+            found = vars(importlib.import_module(module))[name]
+            self.assertEqual(found.__module__, module)
+            for method, parameters in methods.items():
+                self.assertIn(method, vars(found))
+                self.assertEqual(str(inspect.signature(vars(found)[method])), parameters, method)
