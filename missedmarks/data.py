@@ -92,11 +92,12 @@ def is_timetable(thing):
     return True
 
 
-def _are_two_counts(thing):
+def is_count_pair(thing):
+    """Whether this is a pair of numbers from 0."""
     return isinstance(thing, tuple) and len(thing) == 2 and is_count(thing[0]) and is_count(thing[1])
 
 
-def _totals(timetable):
+def totals_of(timetable):
     """How many entries there are ahead of each EVENT, and at last behind all."""
     totals = [0]
     for event in timetable:
@@ -108,10 +109,10 @@ def is_sweeps(timetable, thing):
     """Whether this is SWEEPS of the TIMETABLE."""
     if not isinstance(thing, tuple):
         return False
-    totals = _totals(timetable)
+    totals = totals_of(timetable)
     earliest = 0
     for sweep in thing:
-        if not _are_two_counts(sweep):
+        if not is_count_pair(sweep):
             return False
         time, point = sweep
         if not earliest <= time < len(totals) or point > totals[time]:

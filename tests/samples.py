@@ -7,6 +7,16 @@ BACK = (
     ("put", "a", 1), ("join", 0), ("read", 0, 1), ("save", 0),
     ("drop", "a"), ("read", 0, 2), ("load", 0, 0), ("read", 0, 2),
 )
+CROSS = (
+    ("put", "a", 1), ("drop", "a"), ("put", "b", 2), ("join", 1), ("read", 1, 3), ("drop", "b"), ("read", 1, 4),
+    ("join", 0), ("read", 0, 1), ("read", 0, 2),
+)
+# Reader 0 reads a value, saves, reads its mark, joins anew and reads half; readers 1 and 2 go on from copies,
+# of which the second one is of a reader that had loaded the first one.
+COPIES = (
+    ("put", "a", 5), ("join", 0), ("read", 0, 1), ("save", 0), ("put", "b", 6), ("load", 1, 0), ("drop", "a"),
+    ("read", 1, 2), ("save", 1), ("load", 2, 1), ("read", 0, 3), ("join", 0), ("read", 2, 3), ("read", 0, 1),
+)
 
 
 def nested(bottom, depth, make):
@@ -86,3 +96,49 @@ def random_guards(seed, copies=3, readers=3):
     rng = random.Random(seed)
     known = [("copy", copy) for copy in range(copies)] + [("reader", reader) for reader in range(readers)]
     return tuple(guard for guard in known if rng.random() < 0.3)
+
+
+def random_event(rng, keys, readers, seats, saved, total):
+    """An EVENT that can come, or none, by weights that make readers lag."""
+    word = rng.choices(("put", "drop", "join", "read", "save", "load", "wait"), (2, 2, 1, 4, 1, 1, 1))[0]
+    reader = rng.randrange(readers)
+    if word == "put":
+        return word, rng.choice(keys), rng.randrange(2)
+    if word == "drop":
+        return word, rng.choice(keys)
+    if word == "read" and seats.get(reader, total) < total:
+        return word, reader, rng.randint(seats[reader] + 1, total)
+    if word == "load" and saved:
+        return word, reader, rng.randrange(len(saved))
+    if word == "wait":
+        return (word,)
+    if word == "join" or (word == "save" and reader in seats):
+        return word, reader
+    return None
+
+
+def lagging_timetable(seed, length, keys="ab", readers=3, most=8, copies=3):
+    """A TIMETABLE of so many EVENTs at most: a value is read ahead of its mark, and two who lag read all at last."""
+    rng = random.Random(seed)
+    events, seats, saved, total = [], {}, [], 0
+    start = [("put", "a", 1), ("join", 0), ("read", 0, 1)] + [("save", 0)] * rng.randrange(2) + [("drop", "a")]
+    while len(events) < length - 2:
+        event = start.pop(0) if start else random_event(rng, keys, readers, seats, saved, total)
+        if event is None or (event[0] == "save" and len(saved) == copies):
+            continue
+        if event[0] in ("put", "drop"):
+            if total == most:
+                event = ("wait",)
+            else:
+                total += 1
+        elif event[0] == "save":
+            saved.append(seats[event[1]])
+        elif event[0] == "join":
+            seats[event[1]] = 0
+        elif event[0] == "read":
+            seats[event[1]] = event[2]
+        elif event[0] == "load":
+            seats[event[1]] = saved[event[2]]
+        events.append(event)
+    lagging = [reader for reader in seats if seats[reader] < total]
+    return tuple(events) + tuple(("read", reader, total) for reader in lagging[:2])

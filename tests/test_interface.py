@@ -11,6 +11,24 @@ FUNCTIONS = {
         "guards_of": "(timetable)",
     },
     "missedmarks.log": {"run": "(timetable, hold, sweeps=(), guards=())"},
+    "missedmarks.paths": {
+        "times_of": "(timetable, reader)", "places_at": "(timetable)", "next_of": "(timetable, place)",
+        "pairs": "(timetable)",
+    },
+    "missedmarks.stairs": {
+        "sweeps_under": "(timetable, bounds)", "wrong_pairs": "(timetable, hold, sweeps, guards=())",
+    },
+    "missedmarks.wrongs": {
+        "gone_by": "(timetable, hold, place, guards=())",
+        "may_hold": "(timetable, hold, reader, key, guards=())",
+        "story": "(timetable, hold, reader, key, place, guards=())",
+        "is_story": "(timetable, hold, reader, key, place, guards, thing)",
+        "may_be_wrong": "(timetable, hold, reader, key, guards=())",
+        "may_pairs": "(timetable, hold, guards=())",
+        "safe_hold": "(timetable, reader, key, guards=())",
+        "safe_paper": "(timetable, hold, reader, key, guards=())",
+        "shows_safe": "(timetable, hold, reader, key, guards, thing)",
+    },
 }
 METHODS = {
     ("missedmarks.log", "Log"): {
