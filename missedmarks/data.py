@@ -97,6 +97,25 @@ def is_count_pair(thing):
     return isinstance(thing, tuple) and len(thing) == 2 and is_count(thing[0]) and is_count(thing[1])
 
 
+def is_same(thing, wanted):
+    """Whether this is just what is wanted, made of numbers, strings and tuples: True is no 1, a list no tuple."""
+    if isinstance(wanted, tuple):
+        if not isinstance(thing, tuple) or len(thing) != len(wanted):
+            return False
+        return all([is_same(part, other) for part, other in zip(thing, wanted)])
+    return not isinstance(thing, bool) and thing == wanted
+
+
+def parts_of(rows, count):
+    """The list of the tuples of so many of these rows, each in the order of the rows, the first ones first."""
+    if count == 0:
+        return [()]
+    found = []
+    for at in range(len(rows)):
+        found += [(rows[at],) + rest for rest in parts_of(rows[at + 1:], count - 1)]
+    return found
+
+
 def totals_of(timetable):
     """How many entries there are ahead of each EVENT, and at last behind all."""
     totals = [0]

@@ -20,6 +20,10 @@ class Fates:
         covered = [_covered_at(place, sweeps) for place in range(len(self._nexts))]
         return [self._gone_time(place, covered) for place in range(len(covered))]
 
+    def next_place(self, place):
+        """The place of the next entry of the same key, None if there is none."""
+        return self._nexts[place]
+
     def _gone_time(self, place, covered):
         times = []
         later = self._nexts[place]
@@ -49,15 +53,30 @@ class Reading:
 
     def got(self, sweeps):
         """The ascending list of the places of what it got with these SWEEPS."""
-        gone = self._fates.gone_times(sweeps)
-        return [place for place in self._places if gone[place] is None or self._times[place] < gone[place]]
+        return self._got_of(self._fates.gone_times(sweeps))
 
     def held(self, sweeps):
         """The place of the value that it has in the end with these SWEEPS, -1 if it has none."""
+        return self.held_of(self._fates.gone_times(sweeps))
+
+    def held_of(self, gone):
+        """The place of the value that it has in the end if the entries go at these times, -1 if it has none."""
         last = -1
-        for place in self.got(sweeps):
+        for place in self._got_of(gone):
             last = place if place in self._value_places else -1
         return last
+
+    def bounds(self):
+        """For each value that it can have in the end the bound of the SWEEPS with which it gets it.
+
+        A value needs the next entry of its key behind it: that of a pair has one, its last mark at least.
+        """
+        bounds = []
+        for place in self._value_places:
+            bound = (self._times[place], self._fates.next_place(place))
+            if self.held(sweeps_under(self._timetable, [bound])) == place:
+                bounds.append(bound)
+        return bounds
 
     def sweeps_with(self, place):
         """SWEEPS with which it gets this entry, and of those behind it none that it can miss."""
@@ -74,6 +93,9 @@ class Reading:
     def savers(self, place):
         """The ascending list of the entries behind this one that it gets with all SWEEPS with which it gets this."""
         return [later for later in self.got(self.sweeps_with(place)) if later > place]
+
+    def _got_of(self, gone):
+        return [place for place in self._places if gone[place] is None or self._times[place] < gone[place]]
 
 
 def _guard_limits(timetable, guards):

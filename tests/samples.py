@@ -18,6 +18,22 @@ COPIES = (
     ("read", 1, 2), ("save", 1), ("load", 2, 1), ("read", 0, 3), ("join", 0), ("read", 2, 3), ("read", 0, 1),
 )
 
+# Any two of (0, a), (0, c) and (1, c) can be wrong at once, but not all three.
+TRIO = (
+    ("put", "c", 0), ("put", "a", 1), ("put", "c", 0), ("drop", "a"), ("drop", "b"), ("drop", "c"), ("join", 1),
+    ("join", 0), ("read", 0, 2), ("read", 0, 4), ("read", 1, 2), ("read", 0, 6), ("read", 1, 4), ("read", 1, 6),
+)
+# First the one is far behind, then the other one: both are needed.
+IN_TURN = (
+    ("put", "a", 1), ("join", 0), ("join", 1), ("read", 0, 1), ("read", 1, 1), ("drop", "a"), ("read", 1, 2),
+    ("read", 0, 2), ("put", "b", 1), ("read", 0, 3), ("read", 1, 3), ("drop", "b"), ("read", 0, 4), ("read", 1, 4),
+)
+# Any two of three are enough: it takes three blocks to show that no single one is.
+ANY_TWO = (
+    ("put", "a", 1), ("join", 0), ("read", 0, 1), ("drop", "a"), ("join", 1), ("put", "b", 1), ("save", 1),
+    ("read", 1, 2), ("read", 1, 3), ("drop", "b"), ("read", 0, 2), ("read", 0, 4), ("read", 1, 4),
+)
+
 
 def nested(bottom, depth, make):
     """The value `bottom` inside so many tuples or lists."""
@@ -142,3 +158,33 @@ def lagging_timetable(seed, length, keys="ab", readers=3, most=8, copies=3):
         events.append(event)
     lagging = [reader for reader in seats if seats[reader] < total]
     return tuple(events) + tuple(("read", reader, total) for reader in lagging[:2])
+
+
+def crossing_timetable(seed, length, keys="ab", readers=2, most=6):
+    """A TIMETABLE of so many EVENTs at most in which readers go in steps over what was put long before: who wants one
+    of them wrong must not sweep, who wants another one wrong must.
+    """
+    rng = random.Random(seed)
+    events, seats, lasts = [], {}, {}
+    for _ in range(most):
+        key = rng.choice(keys)
+        lasts[key] = rng.random() < 0.5
+        events.append(("put", key, rng.randrange(3)) if lasts[key] else ("drop", key))
+    for key in lasts:
+        if lasts[key]:
+            events[max(at for at, event in enumerate(events) if event[1] == key)] = ("drop", key)
+    late = [events.pop() for _ in range(rng.randrange(3))]
+    while len(events) < length:
+        reader = rng.randrange(readers)
+        total = sum(event[0] in ("put", "drop") for event in events)
+        if late and rng.random() < 0.3:
+            events.append(late.pop())
+        elif reader not in seats:
+            events.append(("join", reader))
+            seats[reader] = 0
+        elif seats[reader] < total:
+            seats[reader] += rng.randint(1, min(2, total - seats[reader]))
+            events.append(("read", reader, seats[reader]))
+        elif not late and min(seats.values()) == total:
+            break
+    return tuple(events)

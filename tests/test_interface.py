@@ -29,6 +29,27 @@ FUNCTIONS = {
         "safe_paper": "(timetable, hold, reader, key, guards=())",
         "shows_safe": "(timetable, hold, reader, key, guards, thing)",
     },
+    "missedmarks.atonce": {
+        "at_once": "(timetable, hold, these, guards=())", "sweeps_for": "(timetable, hold, these, guards=())",
+        "fewest_sweeps": "(timetable, hold, these, guards=())",
+        "shows_at_once": "(timetable, hold, these, thing, guards=())",
+        "values_at_once": "(timetable, hold, these, guards=())", "greatest_sets": "(timetable, hold, guards=())",
+        "most_at_once": "(timetable, hold, guards=())", "knots": "(timetable, hold, guards=())",
+        "is_knot": "(timetable, hold, thing, guards=())",
+    },
+    "missedmarks.guards": {
+        "is_enough": "(timetable, hold, guards)", "in_danger": "(timetable, hold, guards)",
+        "against": "(timetable, hold, guards)", "fewest_guards": "(timetable, hold)",
+        "least_sets": "(timetable, hold)", "vital": "(timetable, hold)", "of_use": "(timetable, hold)",
+        "is_block": "(timetable, hold, thing)", "blocks": "(timetable, hold)", "paper": "(timetable, hold)",
+        "shows_fewest": "(timetable, hold, thing)", "least_hold": "(timetable, guards=())", "trade": "(timetable)",
+    },
+    "missedmarks.views": {
+        "is_view": "(thing)", "view_of": "(timetable, hold, sweeps, reader)", "held_by": "(view)",
+        "can_be": "(hold, view)", "missed_places": "(hold, view, key)", "doubtful": "(hold, view)",
+        "sure": "(hold, view)", "doubt": "(hold, view, keys)", "most_doubtful": "(hold, view)",
+        "shows_doubt": "(hold, view, keys, thing)",
+    },
 }
 METHODS = {
     ("missedmarks.log", "Log"): {
