@@ -3,6 +3,7 @@
 import random
 
 LAG = (("put", "a", 1), ("join", 0), ("read", 0, 1), ("drop", "a"), ("put", "b", 2), ("read", 0, 3))
+SLOW = LAG[:4] + (("wait",),) + LAG[4:]
 BACK = (
     ("put", "a", 1), ("join", 0), ("read", 0, 1), ("save", 0),
     ("drop", "a"), ("read", 0, 2), ("load", 0, 0), ("read", 0, 2),

@@ -50,6 +50,17 @@ FUNCTIONS = {
         "sure": "(hold, view)", "doubt": "(hold, view, keys)", "most_doubtful": "(hold, view)",
         "shows_doubt": "(hold, view, keys, thing)",
     },
+    "missedmarks.mending": {
+        "with_reads": "(timetable, reads)", "mend": "(timetable, hold, guards=())",
+        "is_mend": "(timetable, hold, thing, guards=())", "harms": "(timetable, hold, guards=())",
+        "first_danger": "(timetable, hold, guards=())", "safe_copies": "(timetable, hold, guards=())",
+        "usable_for": "(timetable, hold, copy, guards=())",
+    },
+    "missedmarks.texts": {
+        "timetable_text": "(timetable)", "sweeps_text": "(sweeps)", "guards_text": "(guards)",
+        "timetable_in": "(text)", "sweeps_in": "(timetable, text)", "guards_in": "(timetable, text)",
+    },
+    "missedmarks.desk": {"answers": "(text)"},
 }
 METHODS = {
     ("missedmarks.log", "Log"): {
@@ -59,6 +70,13 @@ METHODS = {
         "there": "(self)", "now": "(self)", "many": "(self)", "seat": "(self, reader)", "table": "(self, reader)",
         "readers": "(self)", "copies": "(self)", "last": "(self, key)", "wrong": "(self, reader)", "twin": "(self)",
         "__eq__": "(self, other)", "__len__": "(self)", "__repr__": "(self)",
+    },
+    ("missedmarks.session", "Session"): {
+        "__init__": "(self, timetable, hold, guards=())", "add": "(self, event)", "insert": "(self, time, event)",
+        "drop": "(self, time)", "exchange": "(self, time)", "let": "(self, hold)", "set_guards": "(self, guards)",
+        "undo": "(self)", "timetable": "(self)", "hold": "(self)", "guards": "(self)", "many": "(self)",
+        "may": "(self)", "most": "(self)", "mended": "(self)", "usable": "(self)", "after": "(self, sweeps)",
+        "__iter__": "(self)", "__len__": "(self)", "twin": "(self)",
     },
 }
 
