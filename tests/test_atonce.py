@@ -180,7 +180,8 @@ class IsKnot(unittest.TestCase):
         for thing in ODD_THINGS + [
             list(knot), listed(knot), ([0, "a"], (1, "b")), ((0, "a"), [1, "b"]), ((False, "a"), (True, "b")),
             ((0, "a"), (True, "b")), ((False, "a"), (1, "b")), ((0, "a", 0), (1, "b")), ((0, "a"), (1,)), (0, "a"),
-            (("0", "a"), (1, "b")), ((0, None), (1, "b")), ((0, ("a",)), (1, "b")), ("0a", "1b"), (((0, "a"), (1, "b")),),
+            (("0", "a"), (1, "b")), ((0, None), (1, "b")), ((0, ("a",)), (1, "b")), ("0a", "1b"),
+            (((0, "a"), (1, "b")),),
             ((10 ** 5000, "a"), (1, "b")), 10 ** 5000,
         ]:
             self.assertIs(is_knot(CROSS, 0, thing), False)

@@ -9,7 +9,7 @@ from tests.call_forms import Forms
 from tests.samples import BACK, COPIES, SLOW
 from tests.test_mending import EARLY, KEPT, PAIR
 
-READER = (("reader", 0),)
+READER, COPY = (("reader", 0),), (("copy", 0),)
 
 
 def calls_of_mending(timetable, hold, guards, thing):
@@ -25,9 +25,7 @@ CALLS = (
     calls_of_mending(SLOW, 1, (), ((4, 0),)) + calls_of_mending(EARLY, 1, (), ((2, 0), (4, 0)))
     + calls_of_mending(PAIR, 2, READER, ((6, 0), (7, 1))) + calls_of_mending(PAIR, 2, (), ((6, 0), (7, 1)))
     + calls_of_mending(KEPT, 3, (), ()) + calls_of_mending(BACK, 0, (("copy", 0),), ())
-    + [
-        (usable_for, {"timetable": KEPT, "hold": 4, "copy": 0, "guards": guards}) for guards in ((), READER, (("copy", 0),))
-    ]
+    + [(usable_for, {"timetable": KEPT, "hold": 4, "copy": 0, "guards": guards}) for guards in ((), READER, COPY)]
     + [
         (timetable_text, {"timetable": COPIES}), (timetable_text, {"timetable": ()}),
         (sweeps_text, {"sweeps": ((4, 2), (5, 2))}), (sweeps_text, {"sweeps": ()}),
@@ -35,7 +33,8 @@ CALLS = (
         (timetable_in, {"text": timetable_text(COPIES)}), (timetable_in, {"text": "none"}),
         (sweeps_in, {"timetable": SLOW, "text": "4:2 5:2"}), (sweeps_in, {"timetable": SLOW, "text": "-"}),
         (guards_in, {"timetable": BACK, "text": "copy 0, reader 0"}), (guards_in, {"timetable": BACK, "text": "-"}),
-        (answers, {"text": timetable_text(SLOW) + "\n\nhold 1\nguards -\nmay\nmend"}), (answers, {"text": "\nhold 0\nguards -"}),
+        (answers, {"text": timetable_text(SLOW) + "\n\nhold 1\nguards -\nmay\nmend"}),
+        (answers, {"text": "\nhold 0\nguards -"}),
     ]
 )
 
@@ -43,7 +42,7 @@ CALLS = (
 class Calls(Forms, unittest.TestCase):
     calls = CALLS
     kinds = {
-        with_reads: tuple, mend: tuple, is_mend: bool, harms: list, first_danger: int, safe_copies: list, usable_for: int,
-        timetable_text: str, sweeps_text: str, guards_text: str, timetable_in: tuple, sweeps_in: tuple, guards_in: tuple,
-        answers: list,
+        with_reads: tuple, mend: tuple, is_mend: bool, harms: list, first_danger: int, safe_copies: list,
+        usable_for: int, timetable_text: str, sweeps_text: str, guards_text: str, timetable_in: tuple,
+        sweeps_in: tuple, guards_in: tuple, answers: list,
     }

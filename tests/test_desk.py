@@ -18,6 +18,23 @@ from tests.samples import BACK, COPIES, CROSS, IN_TURN, LAG, SLOW, lagging_timet
 from tests.test_texts import BAD_LINES
 
 REQUESTS = ("may", "most", "harms", "guards", "least", "mend", "copies", "danger")
+# Lines that cannot stand where a hold, GUARDS, or a request must.
+BAD_HOLDS = [
+    "", "hold", "hold ", "hold  1", "hold 1 ", " hold 1", "Hold 1", "hold 01", "hold -1", "hold +1", "hold a",
+    "hold 1 2", "hold 1.0", "hold 1234567890", "guards -", "hold none", "hold -", "hold: 1", "hold 1\r", "may",
+]
+BAD_GUARDS = [
+    "", "guards", "guards ", "guards  -", "guards - ", " guards -", "guards none", "guards --", "guard -",
+    "guards copy 0", "guards reader 1", "guards reader 0, reader 0", "guards reader 00", "guards reader",
+    "guards reader 0,", "guards reader 0 ", "guards 0", "guards reader 0, copy 0", "Guards -", "hold 1", "may",
+]
+BAD_REQUESTS = [
+    "may ", " may", "May", "may 0", "mays", "most 0", "harms -", "guards -", "guards copy 0", "least 0", "mend 1",
+    "copies 0", "danger 1", "until", "until ", "until -1", "until 00", "until a", "until 0 0", "until 1234567890",
+    "safe", "safe 0", "safe a 0", "safe 0 A", "safe 0 a b", "safe -1 a", "safe 0  a", "safe 0 abcdefghi", "safe 00 a",
+    "run", "run ", "run  4:2", "run 4:2 ", "run 4:2  5:2", "run 4", "run 4:", "run :2", "run 4:-2", "run 04:2",
+    "run --", "run - -", "run 4:2 -", "run 4:2, 5:2", "run a:b", "run 4:2:1", "run none", "hold 1", "ask", "undo",
+]
 
 
 def sheet(timetable, hold, guards, *requests):
@@ -93,13 +110,16 @@ class Requests(unittest.TestCase):
         self.assertEqual(answers(sheet(timetable, hold, guards, *requests)), wanted)
 
     def test_several_and_none(self):
-        two = (("put", "b", 1), ("put", "a", 1), ("join", 10), ("join", 9), ("read", 10, 2), ("read", 9, 2), ("drop", "a"),
-               ("drop", "b"), ("read", 10, 4), ("read", 9, 4))
+        two = (
+            ("put", "b", 1), ("put", "a", 1), ("join", 10), ("join", 9), ("read", 10, 2), ("read", 9, 2),
+            ("drop", "a"), ("drop", "b"), ("read", 10, 4), ("read", 9, 4),
+        )
         self.assertEqual(answers(sheet(two, 0, (), "may", "most", "guards", "run 8:4", "run 9:4")), [
             "9:a 9:b 10:a 10:b", "9:a 9:b 10:a 10:b", "reader 9", "9:a 9:b 10:a 10:b", "9:a 9:b",
         ])
         copies = LAG[:3] + (("save", 0), ("save", 0))
-        self.assertEqual(answers(sheet(copies, 0, (), "copies", "until 1", "until 2")), ["0 1", "ever", "refused NoCopy"])
+        told = answers(sheet(copies, 0, (), "copies", "until 1", "until 2"))
+        self.assertEqual(told, ["0 1", "ever", "refused NoCopy"])
         self.assertEqual(answers(sheet(BACK, 0, (), "until 0", "copies", "mend")), ["-1", "-", "impossible"])
         self.assertEqual(answers(sheet(BACK, 9, (), "mend", "danger")), ["-", "never"])
         early = (("join", 0), ("put", "a", 1), ("wait",), ("drop", "a"), ("wait",), ("read", 0, 2))
@@ -127,8 +147,8 @@ class Events(unittest.TestCase):
 
     def test_sweeps_as_the_timetable_is_then(self):
         requests = ["run 3:2", "drop a", "run 4:2", "run 4:3", "run 5:2", "wait", "run 5:2", "run 5:2 4:2"]
-        wanted = ["refused BadPlace", "done", "-", "refused BadPlace", "refused BadPlace", "done", "-", "refused BadPlace"]
-        self.assertEqual(answers(sheet(LAG[:3], 0, (), *requests)), wanted)
+        bad = "refused BadPlace"
+        self.assertEqual(answers(sheet(LAG[:3], 0, (), *requests)), [bad, "done", "-", bad, bad, "done", "-", bad])
 
     def test_refused_as_a_log_does(self):
         for line, wanted in (
@@ -203,22 +223,20 @@ class BadLines(unittest.TestCase):
                 self.fails("put a 1\n" + bad + "\nread 0 0\n\nhold x\nguards", 1)
                 self.fails("put a 1\njoin 0\n" + bad + "\n\nhold 1\nguards -\nmay", 2)
         for text, number in (
-            ("read 0 1\n\nhold 1\nguards -", 0), ("join 0\nsave 0\nload 0 1\n\nhold 1\nguards -", 2), ("none\n\nhold 1\nguards -", 0),
-            ("put a 1\njoin 0\nread 0 2", 2), ("may\n\nhold 1\nguards -", 0), ("hold 1\nguards -\nmay", 0),
+            ("read 0 1\n\nhold 1\nguards -", 0), ("join 0\nsave 0\nload 0 1\n\nhold 1\nguards -", 2),
+            ("none\n\nhold 1\nguards -", 0), ("put a 1\njoin 0\nread 0 2", 2), ("may\n\nhold 1\nguards -", 0),
+            ("hold 1\nguards -\nmay", 0),
         ):
             self.fails(text, number)
 
     def test_hold(self):
-        for bad in ("", "hold", "hold ", "hold  1", "hold 1 ", " hold 1", "Hold 1", "hold 01", "hold -1", "hold +1", "hold a",
-                    "hold 1 2", "hold 1.0", "hold 1234567890", "guards -", "hold none", "hold -", "hold: 1", "hold 1\r", "may"):
+        for bad in BAD_HOLDS:
             self.fails("wait\n\n" + bad + "\nguards -\nmay", 2)
             self.fails("wait\n\n" + bad, 2)
             self.fails("\n" + bad + "\nguards x\nbad", 1)
 
     def test_guards(self):
-        for bad in ("", "guards", "guards ", "guards  -", "guards - ", " guards -", "guards none", "guards --", "guard -",
-                    "guards copy 0", "guards reader 1", "guards reader 0, reader 0", "guards reader 00", "guards reader",
-                    "guards reader 0,", "guards reader 0 ", "guards 0", "guards reader 0, copy 0", "Guards -", "hold 1", "may"):
+        for bad in BAD_GUARDS:
             self.fails("join 0\n\nhold 1\n" + bad + "\nmay", 3)
             self.fails("join 0\n\nhold 1\n" + bad, 3)
             self.fails("join 0\n\nhold 1\n" + bad + "\nno\nno", 3)
@@ -227,13 +245,7 @@ class BadLines(unittest.TestCase):
         self.fails("join 0\n\nhold 1\nguards reader 1\njoin 1", 3)
 
     def test_requests(self):
-        for bad in BAD_LINES + [
-            "may ", " may", "May", "may 0", "mays", "most 0", "harms -", "guards -", "guards copy 0", "least 0", "mend 1",
-            "copies 0", "danger 1", "until", "until ", "until -1", "until 00", "until a", "until 0 0", "until 1234567890",
-            "safe", "safe 0", "safe a 0", "safe 0 A", "safe 0 a b", "safe -1 a", "safe 0  a", "safe 0 abcdefghi", "safe 00 a",
-            "run", "run ", "run  4:2", "run 4:2 ", "run 4:2  5:2", "run 4", "run 4:", "run :2", "run 4:-2", "run 04:2", "run --",
-            "run - -", "run 4:2 -", "run 4:2, 5:2", "run a:b", "run 4:2:1", "run none", "hold 1", "ask", "undo",
-        ]:
+        for bad in BAD_LINES + BAD_REQUESTS:
             if bad == "run 0:0":
                 continue
             self.fails("wait\n\nhold 1\nguards -\n" + bad, 4)

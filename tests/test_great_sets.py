@@ -147,6 +147,9 @@ class Same(unittest.TestCase):
             return (word, NAMES[rest[0]], *[value * 7 - 999999999 for value in rest[1:]])
         return (word, *[NUMBERS[reader] for reader in rest[:1]], *rest[1:])
 
+    def other_entry(self, place, key, value):
+        return place, NAMES[key], None if value is None else value - 5
+
     def other_guards(self, guards):
         return tuple(sorted((kind, NUMBERS[number] if kind == "reader" else number) for kind, number in guards))
 
@@ -183,10 +186,7 @@ class Same(unittest.TestCase):
             view = view_of(timetable, 1, random_sweeps(seed, timetable, 8), readers_of(timetable)[0])
             if not view or view[-1][1] > 7:
                 continue
-            changed = tuple(
-                (time, upto, tuple((place, NAMES[key], value if value is None else value - 5) for place, key, value in got))
-                for time, upto, got in view
-            )
+            changed = tuple((time, upto, tuple(self.other_entry(*row) for row in got)) for time, upto, got in view)
             later = tuple((time + 1, upto, got) for time, upto, got in view)
             for hold in (0, 1, 2):
                 self.assertIs(can_be(hold, view), can_be(hold, changed))

@@ -11,8 +11,8 @@ from tests.test_mending import EARLY, KEPT, PAIR, all_reads, slow_reads
 
 # Here a read in a wait gets a value that would be gone later, or goes beyond a mark too late.
 HARMED = [
-    EARLY, (("join", 0), ("put", "a", 1), ("wait",), ("put", "a", 2), ("wait",), ("drop", "a"), ("wait",), ("read", 0, 3)),
-    (("join", 0), ("put", "a", 1), ("wait",), ("drop", "a"), ("wait",)), (*KEPT[:5], ("wait",), ("wait",)),
+    EARLY, (("join", 0), ("put", "a", 1), ("wait",), ("drop", "a"), ("wait",)), (*KEPT[:5], ("wait",), ("wait",)),
+    (("join", 0), ("put", "a", 1), ("wait",), ("put", "a", 2), ("wait",), ("drop", "a"), ("wait",), ("read", 0, 3)),
 ]
 CHOSEN = [(), LAG, SLOW, KEPT, PAIR, BACK, BACK + (("wait",),), CROSS] + HARMED
 

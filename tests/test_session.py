@@ -64,8 +64,10 @@ class Model:
 
 def drawn_event(rng):
     return rng.choice((
-        ("put", rng.choice("ab"), rng.randrange(-3, 3)), ("drop", rng.choice("ab")), ("join", rng.randrange(3)), ("wait",),
-        ("read", rng.randrange(2), rng.randrange(6)), ("save", rng.randrange(2)), ("load", rng.randrange(3), rng.randrange(2)),
+        ("put", rng.choice("ab"), rng.randrange(-3, 3)), ("drop", rng.choice("ab")), ("join", rng.randrange(3)),
+        ("wait",),
+        ("read", rng.randrange(2), rng.randrange(6)), ("save", rng.randrange(2)),
+        ("load", rng.randrange(3), rng.randrange(2)),
     ))
 
 
@@ -93,7 +95,8 @@ class Examples(unittest.TestCase):
     def test_of_the_document(self):
         s = Session(SLOW, 1, (("reader", 7),))
         self.assertEqual(
-            (s.may(), s.mended(), s.guards(), s.let(3), s.may(), s.undo(), s.many(), len(s), s.after(((4, 2),)).wrong(0)),
+            (s.may(), s.mended(), s.guards(), s.let(3), s.may(), s.undo(), s.many(), len(s),
+            s.after(((4, 2),)).wrong(0)),
             ([(0, "a")], ((4, 0),), (), None, [], None, 0, 7, ["a"]),
         )
         with self.assertRaises(Unfit) as caught:
@@ -199,8 +202,10 @@ class Edits(Checks):
         session = Session(COPIES, 1)
         for call, told, time in (
             (session.drop, (1,), 1), (session.drop, (0,), 1), (session.drop, (3,), 4), (session.drop, (5,), 6),
-            (session.drop, (8,), 8), (session.exchange, (0,), None), (session.exchange, (1,), 1), (session.exchange, (2,), None),
-            (session.insert, (0, ("load", 1, 0)), 0), (session.insert, (14, ("read", 0, 1)), 14), (session.add, (("save", 9),), 14),
+            (session.drop, (8,), 8), (session.exchange, (0,), None), (session.exchange, (1,), 1),
+            (session.exchange, (2,), None),
+            (session.insert, (0, ("load", 1, 0)), 0), (session.insert, (14, ("read", 0, 1)), 14),
+            (session.add, (("save", 9),), 14),
             (session.insert, (2, ("read", 0, 1)), 3), (session.insert, (13, ("read", 0, 3)), 14),
         ):
             twin = list(COPIES)

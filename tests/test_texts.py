@@ -12,14 +12,17 @@ TIMETABLES = [(), LAG, SLOW, BACK, CROSS, COPIES] + [lagging_timetable(seed, 16,
 TIMETABLES += [random_timetable(seed, 12) for seed in range(40)]
 # Lines that are no EVENT, wherever they stand.
 BAD_LINES = [
-    "", " ", "none", "-", "put", "put a", "put a 1 2", "put  a 1", " put a 1", "put a 1 ", "put a\t1", "Put a 1", "PUT a 1",
+    "", " ", "none", "-", "put", "put a", "put a 1 2", "put  a 1", " put a 1", "put a 1 ", "put a\t1", "Put a 1",
+    "PUT a 1",
     "put A 1", "put a1 1", "put abcdefghi 1", "put  1", "put a b", "put a +1", "put a 01", "put a -01", "put a 00",
     "put a -0", "put a --1", "put a 1.0", "put a 1e3", "put a 1234567890", "put a -1234567890", "put a 0x1", "put a -",
     "put a 1_0", "put a None", "put a True", "put 1 a", "drop", "drop a 1", "drop A", "drop a ", "drop 1", "drop ab-c",
     "join", "join a", "join -1", "join 00", "join 01", "join 0 0", "join +0", "join 1234567890", "join  0", "Join 0",
-    "read 0", "read 0 1 2", "read 0 -1", "read a 1", "read 0 01", "read 0  1", "read 0,1", "save", "save -1", "save 0 0",
+    "read 0", "read 0 1 2", "read 0 -1", "read a 1", "read 0 01", "read 0  1", "read 0,1", "save", "save -1",
+    "save 0 0",
     "load 0", "load 0 0 0", "load 0 -1", "load 0 00", "wait ", " wait", "wait 1", "waits", "Wait", "w", "put a 1\r",
-    "sweep 1", "run 0:0", "hold 1", "guards -", "# wait", "wait;", "put a \u0661", "join \u00b2", "put \u00e4 1", "wait\x00",
+    "sweep 1", "run 0:0", "hold 1", "guards -", "# wait", "wait;", "put a \u0661", "join \u00b2", "put \u00e4 1",
+    "wait\x00",
     "put a \u22121", "join 0\x0b", "wait\u2028wait", "wait\x85wait", "wait\x0cwait", "put a 1,000", "put a\u00a01",
 ]
 
@@ -52,7 +55,8 @@ class ThereAndBack(unittest.TestCase):
     def test_every_kind_of_event(self):
         text = "put a -3\njoin 7\nread 7 1\nsave 7\ndrop a\nload 999999999 0\nwait"
         wanted = (
-            ("put", "a", -3), ("join", 7), ("read", 7, 1), ("save", 7), ("drop", "a"), ("load", 999999999, 0), ("wait",),
+            ("put", "a", -3), ("join", 7), ("read", 7, 1), ("save", 7), ("drop", "a"), ("load", 999999999, 0),
+            ("wait",),
         )
         self.assertEqual((timetable_text(wanted), timetable_in(text)), (text, wanted))
 
@@ -94,7 +98,8 @@ class BadTimetables(unittest.TestCase):
         for text, line in (
             ("read 0 1", 0), ("put a 1\nread 0 1", 1), ("join 0\nread 0 1", 1), ("put a 1\njoin 0\nread 0 0", 2),
             ("put a 1\njoin 0\nread 0 1\nread 0 1", 3), ("put a 1\njoin 0\nread 1 1", 2), ("save 0", 0),
-            ("join 0\nsave 1", 1), ("load 0 0", 0), ("join 0\nsave 0\nload 1 1", 2), ("join 0\nsave 0\nload 1 1\nbad", 2),
+            ("join 0\nsave 1", 1), ("load 0 0", 0), ("join 0\nsave 0\nload 1 1", 2),
+            ("join 0\nsave 0\nload 1 1\nbad", 2),
             ("wait\nread 0 1\nno", 1), ("wait\nno\nread 0 1", 1), ("join 0\nload 0 0\nsave 0", 1),
         ):
             self.fails(text, line)
@@ -133,8 +138,10 @@ class BadSweepsAndGuards(unittest.TestCase):
     def test_guards_that_are_not_so_written(self):
         for text in (
             "", " ", "none", "--", "- ", "copy", "copy0", "copy  0", "copy 0 ", " copy 0", "copy 0,reader 0", "Copy 0",
-            "copy 0,  reader 0", "copy 0 , reader 0", "copy 0 reader 0", "copy 0\nreader 0", "copy 00", "copy +0", "copy -0",
-            "copy 0,", "copy 0, ", ", copy 0", "copy a", "reader", "reader 01", "reader 0 0", "writer 0", "copy 0, -", "0",
+            "copy 0,  reader 0", "copy 0 , reader 0", "copy 0 reader 0", "copy 0\nreader 0", "copy 00", "copy +0",
+            "copy -0",
+            "copy 0,", "copy 0, ", ", copy 0", "copy a", "reader", "reader 01", "reader 0 0", "writer 0", "copy 0, -",
+            "0",
             "-, copy 0", "('copy', 0)", "copy:0", "copy \u0660", "copy 0; reader 0", "reader 0\r", "0 copy",
         ):
             self.fails(guards_in, BACK, text)
@@ -161,7 +168,8 @@ class DrawnTexts(unittest.TestCase):
         kept = [0, 0]
         for seed in range(4000):
             rng = random.Random(seed)
-            base = rng.choice(("put a 1\njoin 0\nread 0 1", "4:2 5:2", "copy 0, reader 0", "", "none", "-", "wait\nwait"))
+            bases = ("put a 1\njoin 0\nread 0 1", "4:2 5:2", "copy 0, reader 0", "", "none", "-", "wait\nwait")
+            base = rng.choice(bases)
             text = list(base)
             for _ in range(rng.randrange(3)):
                 at = rng.randint(0, len(text))

@@ -68,7 +68,8 @@ class IsView(unittest.TestCase):
     def test_views(self):
         for thing in (
             (), SEEN, NEVER, TWO, ((0, 1, ()),), ((15, 7, ()),), ((0, 1, ()), (1, 2, ())), ((10 ** 20, 10 ** 20, ()),),
-            ((3, 2, ((0, "abcdefgh", -5),)),), ((3, 2, ((1, "a", None),)),), ((0, 2, ((0, "a", 10 ** 30), (1, "a", 0))),),
+            ((3, 2, ((0, "abcdefgh", -5),)),), ((3, 2, ((1, "a", None),)),),
+            ((0, 2, ((0, "a", 10 ** 30), (1, "a", 0))),),
             ((2, 1, ()), (4, 4, ((1, "a", 1), (3, "a", None)))),
         ):
             self.assertIs(is_view(thing), True)
@@ -77,7 +78,8 @@ class IsView(unittest.TestCase):
         for thing in (
             ((0, 0, ()),), ((-1, 1, ()),), ((0, 1, ()), (0, 2, ())), ((2, 1, ()), (1, 2, ())), ((0, 1, ()), (1, 1, ())),
             ((0, 2, ()), (1, 1, ())), ((3, 2, ((2, "a", 1),)),), ((3, 2, ((-1, "a", 1),)),), ((3, 2, ((0, "A", 1),)),),
-            ((3, 2, ((0, "", 1),)),), ((3, 2, ((0, "abcdefghi", 1),)),), ((3, 2, ((0, 1, 1),)),), ((3, 2, ((0, "a", "1"),)),),
+            ((3, 2, ((0, "", 1),)),), ((3, 2, ((0, "abcdefghi", 1),)),), ((3, 2, ((0, 1, 1),)),),
+            ((3, 2, ((0, "a", "1"),)),),
             ((3, 2, ((0, "a", True),)),), ((3, 2, ((False, "a", 1),)),), ((3, 2, ((0, "a", False),)),),
             ((3, 2, ((0, "a", 1), (0, "b", 1))),), ((3, 2, ((1, "a", 1), (0, "a", 1))),), ((3, 2, ((0, "a"),)),),
             ((3, 2, ((0, "a", 1, 1),)),), ((3, 2, ((0, "a", ()),)),), ((True, 2, ()),), ((3, True, ()),), ((3, 2),),
@@ -191,7 +193,8 @@ class Chosen(unittest.TestCase):
 
 class Errors(unittest.TestCase):
     def test_what_cannot_be(self):
-        for hold, view in ((2, NEVER), (0, NEVER), (0, ((0, 1, ()),)), (0, ((1, 1, ()),)), (3, TWO), (2, ((2, 1, ()),))):
+        for hold, view in ((2, NEVER), (0, NEVER), (0, ((0, 1, ()),)), (0, ((1, 1, ()),)), (3, TWO),
+            (2, ((2, 1, ()),))):
             self.assertIs(can_be(hold, view), False)
             for call, more in ((doubtful, ()), (sure, ()), (most_doubtful, ()), (missed_places, ("a",)),
                                (missed_places, ("zz",)), (doubt, (["a"],)), (doubt, (["zz", "a"],))):
@@ -217,7 +220,8 @@ class Shows(unittest.TestCase):
         ):
             self.assertIs(shows_doubt(hold, view, keys, pair), False)
         for thing in (
-            (LAG, ()), (LAG, ((4, 2), (5, 3), (6, 4))), (LAG, ((5, 2),)), (LAG[:5], ()), (LAG[1:], ()), (LAG, ((4, 1),)),
+            (LAG, ()), (LAG, ((4, 2), (5, 3), (6, 4))), (LAG, ((5, 2),)), (LAG[:5], ()), (LAG[1:], ()),
+            (LAG, ((4, 1),)),
             (LAG[:3] + (("put", "a", 3),) + LAG[4:], SWEEPS), (LAG[:3] + (("drop", "b"),) + LAG[4:], SWEEPS),
             (LAG + (("put", "a", 1),), SWEEPS), (LAG + (("drop", "a"),), SWEEPS), (LAG + (("join", 0),), SWEEPS),
             (LAG, SWEEPS, ()), (LAG,), (SWEEPS, LAG), LAG, SWEEPS,
@@ -242,7 +246,8 @@ class Shows(unittest.TestCase):
     def test_lists_and_values_of_every_kind(self):
         for thing in ODD_THINGS + [
             [LAG, SWEEPS], (list(LAG), SWEEPS), (LAG, list(SWEEPS)), listed((LAG, SWEEPS)), (LAG, None), (None, SWEEPS),
-            (LAG, ((4, 2), [5, 2])), (LAG[:5] + (["read", 0, 3],), SWEEPS), (LAG, ((4, True),)), (LAG, ((4, 2), (True, 2))),
+            (LAG, ((4, 2), [5, 2])), (LAG[:5] + (["read", 0, 3],), SWEEPS), (LAG, ((4, True),)),
+            (LAG, ((4, 2), (True, 2))),
             ((("put", "a", True),) + LAG[1:], SWEEPS), ("", ""), ((), ()), (LAG, 0), (0, 0), (True, False),
         ]:
             self.assertIs(shows_doubt(1, SEEN, ["a"], thing), False)

@@ -183,7 +183,8 @@ class Guarantees(unittest.TestCase):
             sweeps = drawn_rows(seed, timetable)[-1]
             self.assertEqual(session.after(sweeps), run(timetable, hold, sweeps, guards))
             self.assertEqual(timetable_in(timetable_text(timetable)), timetable)
-            text = f"{timetable_text(timetable)}\n\nhold {hold}\nguards {guards_text(guards)}\nmay\nrun {sweeps_text(sweeps)}"
+            lines = [timetable_text(timetable), "", f"hold {hold}", f"guards {guards_text(guards)}", "may"]
+            text = "\n".join(lines + [f"run {sweeps_text(sweeps)}"])
             told = [session.may(), wrong_pairs(timetable, hold, sweeps, guards)]
             wanted = [" ".join(f"{reader}:{key}" for reader, key in row) or "-" for row in told]
             self.assertEqual(answers(text), wanted)
@@ -269,7 +270,8 @@ class More(unittest.TestCase):
             reads, others = mend(timetable, hold, guards), mend(changed, hold, again)
             self.assertEqual(reads and len(reads), others and len(others))
             if reads:
-                self.assertIs(is_mend(changed, hold, tuple((time, NUMBERS[reader]) for time, reader in reads), again), True)
+                same = tuple((time, NUMBERS[reader]) for time, reader in reads)
+                self.assertIs(is_mend(changed, hold, same, again), True)
 
     def other(self, event):
         word, *rest = event
