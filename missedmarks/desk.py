@@ -49,8 +49,8 @@ class Sheet:
         """What stands in this line behind this word and a blank; a line that is missing has this number, too."""
         if number >= len(self._lines):
             raise BadLine(number)
-        first, blank, rest = self._lines[number].partition(" ")
-        if first != word or blank == "":
+        first, _, rest = self._lines[number].partition(" ")
+        if first != word:
             raise BadLine(number)
         return rest
 

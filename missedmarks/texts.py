@@ -54,23 +54,18 @@ def timetable_in(text):
 def sweeps_in(timetable, text):
     """The SWEEPS of the TIMETABLE that have this text."""
     sweeps = points_in(text)
-    if sweeps is None or not is_sweeps(timetable, sweeps):
+    if not is_sweeps(timetable, sweeps):
         raise BadText(0)
     return sweeps
 
 
 def guards_in(timetable, text):
     """The GUARDS of the TIMETABLE that have this text."""
-    rows = [] if text == NONE else [row.split(" ") for row in text.split(", ")]
-    guards = []
-    for row in rows:
-        number = number_in(row[-1])
-        if len(row) != 2 or number is None:
-            raise BadText(0)
-        guards.append((row[0], number))
-    if not is_guards(timetable, tuple(guards)):
+    rows = [] if text == NONE else [row.partition(" ") for row in text.split(", ")]
+    guards = tuple([(kind, number_in(number)) for kind, _, number in rows])
+    if not is_guards(timetable, guards):
         raise BadText(0)
-    return tuple(guards)
+    return guards
 
 
 def pairs_text(pairs):

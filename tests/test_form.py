@@ -3,6 +3,7 @@
 import ast
 import builtins
 import pathlib
+import re
 import unittest
 import warnings
 
@@ -29,7 +30,16 @@ STATEMENTS = (
     ast.Raise, ast.Try, ast.With, ast.Assert, ast.Delete, ast.Expr, ast.Pass, ast.Break, ast.Continue, ast.Nonlocal,
     ast.ImportFrom,
 )
+WITH_DOCSTRING = (ast.Module, ast.ClassDef, ast.FunctionDef)
 BARRED = (ast.Await, ast.Div, ast.MatMult, ast.MatchClass, ast.MatchMapping)
+
+# Words that may stand nowhere in a file but in comments and docstrings.
+BARRED_WORDS = set(
+    "type typing typing_extensions enum Enum IntEnum StrEnum Flag IntFlag Generic Protocol ABC ABCMeta namedtuple"
+    " NamedTuple TypedDict TYPE_CHECKING abstractmethod register mro elements open input law version_info exit help"
+    " id dir vars compile eval exec globals locals getattr setattr hasattr delattr breakpoint copyright credits license"
+    .split()
+)
 
 
 def trees():
@@ -144,6 +154,36 @@ class Form(unittest.TestCase):
                 for node in ast.walk(found):
                     if isinstance(node, ast.Attribute) and isinstance(node.ctx, ast.Store):
                         self.assertNotIn(node.attr, methods, (name, node.lineno))
+
+    def test_barred_words(self):
+        for name, text, tree in trees():
+            docstrings = [ast.get_docstring(node, False) for node in ast.walk(tree) if isinstance(node, WITH_DOCSTRING)]
+            words = set()
+            for node in ast.walk(tree):
+                if isinstance(node, ast.Constant) and isinstance(node.value, str) and node.value not in docstrings:
+                    words |= set(re.findall("[A-Za-z_]+", node.value))
+                for field in ("id", "attr", "arg", "name"):
+                    words.add(getattr(node, field, None))
+            self.assertEqual(words & BARRED_WORDS, set(), name)
+            self.assertNotIn("_wall", text)
+
+    def test_who_is_iterated_over(self):
+        """A class that is iterated over and has a length: then nothing comes from itertools."""
+        for name, _, tree in trees():
+            modules = [node.module for node in tree.body if isinstance(node, ast.ImportFrom)]
+            self.assertNotIn("itertools", modules, name)
+            for node in ast.walk(tree):
+                if isinstance(node, ast.FunctionDef) and node.name == "__iter__":
+                    self.assertEqual(ast.unparse(node.body[-1]), "return iter(self._events)")
+                    self.assertEqual(len(node.body), 1)
+                if isinstance(node, ast.FunctionDef) and node.name == "__len__":
+                    self.assertTrue(ast.unparse(node.body[-1]).startswith("return len("))
+
+    def test_lists_for_all_and_any(self):
+        """A class tells itself what == means: all, any, min, max, sum and sorted take no generator expressions."""
+        for name, _, tree in trees():
+            for node in ast.walk(tree):
+                self.assertNotIsInstance(node, ast.GeneratorExp, (name, getattr(node, "lineno", 0)))
 
     def test_strings_and_numbers(self):
         for name, _, tree in trees():

@@ -162,6 +162,11 @@ class Mend(unittest.TestCase):
         ):
             self.assertIs(is_mend(timetable, 0, thing), right)
 
+    def test_keys_that_are_called_as_events(self):
+        timetable = tuple((*event[:1], "wait", *event[2:]) if event[0] in ("put", "drop") else event for event in PAIR)
+        self.assertEqual([mend(timetable, hold) for hold in range(5)], [mend(PAIR, hold) for hold in range(5)])
+        self.assertIs(is_mend((("drop", "wait"), ("join", 0), ("drop", "wait")), 0, ((2, 0),)), False)
+
     def test_no_waits(self):
         for timetable in (LAG, BACK, CROSS):
             self.assertIsNone(mend(timetable, 0))
@@ -210,6 +215,15 @@ class Copies(unittest.TestCase):
         self.assertEqual([usable_for(KEPT, hold, 0, COPY) for hold in range(3)], [None] * 3)
         self.assertEqual([usable_for(KEPT, hold, 0, READER) for hold in range(4)], [-1, -1, -1, 0])
         self.assertEqual([safe_copies(KEPT, hold) for hold in range(5)], [[], [], [], [0], [0]])
+
+    def test_the_new_reader_is_no_guard(self):
+        two = KEPT + (("join", 1),)
+        for guards in (READER, (("reader", 0), ("reader", 1)), (("reader", 1),)):
+            # Reader 1 comes at 7 and goes nowhere: a mark that is still there then stays.
+            wanted = [-1, -1] + ([None] * 3 if ("reader", 1) in guards else [-1, -1, 0])
+            self.assertEqual([usable_for(two, hold, 0, guards) for hold in range(5)], wanted)
+            safe = [safe_copies(two, hold, guards) for hold in range(5)]
+            self.assertEqual(safe, [[] if told == -1 else [0] for told in wanted])
 
     def test_nothing_to_miss_or_to_read(self):
         self.assertEqual([usable_for(KEPT[:4], hold, 0) for hold in (0, 3)], [None, None])
