@@ -15,14 +15,12 @@ class Sight:
     def __init__(self, view):
         self.reads = {time: upto for time, upto, _ in view}
         self.taken = {place: (key, value) for _, _, got in view for place, key, value in got}
-        self.times = []
-        for time, upto in self.reads.items():
-            self.times = self.times + [time] * (upto - len(self.times))
+        self.times = _read_times(view)
         self.gaps = [place for place in range(len(self.times)) if place not in self.taken]
         # The later the join, the sooner the entries: just ahead of the first READ it costs them least.
-        self.joined = self.times[0] - 1 if self.times else 0
-        last = self.times[-1] if self.times else 0
-        self.slots = [time for time in range(last) if time not in self.reads and time != self.joined]
+        self.joined = view[0][0] - 1 if view else 0
+        end = view[-1][0] if view else 0
+        self.slots = [time for time in range(end) if time not in self.reads and time != self.joined]
 
     def has_room(self):
         """Whether there can be enough entries ahead of each READ."""
@@ -222,6 +220,14 @@ def _is_got(thing, start, end):
             return False
         start = row[0] + 1
     return True
+
+
+def _read_times(view):
+    """For each place below the last upto the time at which it was read."""
+    times = []
+    for time, upto, _ in view:
+        times += [time] * (upto - len(times))
+    return times
 
 
 def _plain(view):
